@@ -1,0 +1,1 @@
+"""Journeys of which the steps alone are counted."""
