@@ -65,3 +65,10 @@ def seen(journey, names):
     called = {place: name for place, name in names}
     row = [called.get(place, place) for place in journey]
     return tuple([row[0]] + [other for one, other in steps_of(row) if one != other])
+
+
+def as_tuples(thing):
+    """The thing with a tuple for each list, at any depth."""
+    if isinstance(thing, (list, tuple)):
+        return tuple([as_tuples(member) for member in thing])
+    return thing

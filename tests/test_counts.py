@@ -6,18 +6,9 @@ import unittest
 from countedsteps.counts import Counts
 from countedsteps.errors import Below, NoJourney, NoPlace, Short, Still
 from countedsteps.journeys import steps_of
+from helping import GREAT, Raising
 
-GREAT = 10 ** 30
 LOOP = Counts("a", (("a", "b", 2), ("b", "a", 1), ("a", "b", 1), ("b", "c", 0)))
-
-
-class Raising(unittest.TestCase):
-    def check_raises(self, error, values, call):
-        """That call raises error, with just these values."""
-        with self.assertRaises(error) as caught:
-            call()
-        self.assertIs(caught.exception.__class__, error)
-        self.assertEqual(vars(caught.exception), values)
 
 
 class DocumentExamples(Raising):

@@ -4,29 +4,51 @@ import importlib
 import inspect
 import unittest
 
+# A parameter that is passed by name alone has a star in front; a default value stands behind the sign =.
 FUNCTIONS = {
     "countedsteps.journeys": {
-        "is_place": ["thing"], "is_step": ["thing"], "is_journey": ["thing"], "steps_of": ["journey"],
-        "visits": ["journey", "place"], "exits": ["journey", "place"], "entries": ["journey", "place"],
-        "turned": ["journey"], "joined": ["one", "other"], "seen": ["journey", "names"],
+        "is_place": "thing", "is_step": "thing", "is_journey": "thing", "steps_of": "journey",
+        "visits": "journey place", "exits": "journey place", "entries": "journey place",
+        "turned": "journey", "joined": "one other", "seen": "journey names",
     },
-}
-METHODS = {
-    ("countedsteps.counts", "Counts"): {
-        "outs": ["place"], "ins": ["place"], "nexts": ["place"], "befores": ["place"],
-        "begun": ["place"], "check": ["place"],
+    "countedsteps.stands": {
+        "surplus": "counts", "pieces": "counts", "why_none": "counts", "is_had": "counts", "end_of": "counts",
+        "turned_counts": "counts", "need": "counts", "gone": "counts place", "open_steps": "counts",
+        "some_journey": "counts",
     },
+    "countedsteps.exact": {"factorial": "many", "arrangements": "numbers", "determinant": "rows"},
+    "countedsteps.trees": {
+        "how_many": "counts", "last_steps": "journey", "is_tree": "counts thing", "trees": "counts",
+        "how_many_trees": "counts", "with_tree": "counts tree", "exit_lists": "journey", "by_lists": "start lists",
+    },
+    "countedsteps.ranks": {"all_journeys": "counts *most=2000"},
 }
-SIGNS = {
-    ("countedsteps.counts", "Counts"): ["__getitem__", "__contains__", "__iter__", "__eq__", "__add__", "__sub__"],
+# What a class is made with, its methods, its properties without setters, its signs.
+CLASSES = {
+    ("countedsteps.counts", "Counts"): (
+        "start steps=()",
+        {"outs": "place", "ins": "place", "nexts": "place", "befores": "place", "begun": "place", "check": "place"},
+        "start steps places total text",
+        "__getitem__ __contains__ __iter__ __eq__ __add__ __sub__",
+    ),
+    ("countedsteps.ranks", "Journeys"): (
+        "counts",
+        {"rank": "journey", "after": "journey", "ahead": "journey", "between": "row"},
+        "counts many first last",
+        "__getitem__ __contains__ __iter__ __eq__",
+    ),
 }
-PROPERTIES = {
-    ("countedsteps.counts", "Counts"): ["start", "steps", "places", "total", "text"],
-}
+STATIC = {("countedsteps.counts", "Counts"): {"of": "journey"}}
 
 
 def parameters(function):
-    return list(inspect.signature(function).parameters)
+    """The parameters of the function, as the tables above write them."""
+    words = []
+    for name, parameter in inspect.signature(function).parameters.items():
+        star = "*" if parameter.kind is parameter.KEYWORD_ONLY else ""
+        default = "" if parameter.default is parameter.empty else f"={parameter.default!r}"
+        words.append(star + name + default)
+    return " ".join(words)
 
 
 def own_class(where):
@@ -42,29 +64,27 @@ class Interface(unittest.TestCase):
                 function = getattr(importlib.import_module(module), name)
                 self.assertEqual((function.__module__, parameters(function)), (module, names), name)
 
-    def test_methods(self):
-        for where, methods in METHODS.items():
+    def test_classes(self):
+        for where, (made_with, methods, _, signs) in CLASSES.items():
+            own = own_class(where)
+            self.assertEqual(own["__module__"], where[0])
+            self.assertEqual(parameters(own["__init__"]), f"self {made_with}")
             for name, names in methods.items():
-                self.assertEqual(parameters(own_class(where)[name]), ["self", *names], name)
-
-    def test_signs(self):
-        for where, names in SIGNS.items():
-            for name in names:
-                self.assertIn(name, own_class(where))
+                self.assertEqual(parameters(own[name]), f"self {names}".strip(), name)
+            for name in signs.split():
+                self.assertIn(name, own)
 
     def test_properties_without_setters(self):
-        for where, names in PROPERTIES.items():
-            for name in names:
+        for where, (_, _, properties, _) in CLASSES.items():
+            for name in properties.split():
                 self.assertIsInstance(own_class(where)[name], property)
                 self.assertIsNone(own_class(where)[name].fset)
 
-    def test_counts(self):
-        own = own_class(("countedsteps.counts", "Counts"))
-        self.assertEqual(own["__module__"], "countedsteps.counts")
-        self.assertEqual(parameters(own["__init__"]), ["self", "start", "steps"])
-        self.assertEqual(inspect.signature(own["__init__"]).parameters["steps"].default, ())
-        self.assertIsInstance(own["of"], staticmethod)
-        self.assertEqual(parameters(own["of"].__func__), ["journey"])
+    def test_static_methods(self):
+        for where, methods in STATIC.items():
+            for name, names in methods.items():
+                self.assertIsInstance(own_class(where)[name], staticmethod)
+                self.assertEqual(parameters(own_class(where)[name].__func__), names)
 
 
 if __name__ == "__main__":
