@@ -22,6 +22,24 @@ FUNCTIONS = {
         "how_many_trees": "counts", "with_tree": "counts tree", "exit_lists": "journey", "by_lists": "start lists",
     },
     "countedsteps.ranks": {"all_journeys": "counts *most=2000"},
+    "countedsteps.torn": {
+        "notes_of": "journey members", "members_for": "journey", "fewest_members": "journey",
+    },
+    "countedsteps.lasts": {
+        "last_outs": "counts place", "first_outs": "counts place", "first_ins": "counts place",
+        "last_ins": "counts place", "share_last": "counts one other", "share_first_in": "counts one other",
+        "share_out": "counts one other *number=0", "share_in": "counts one other *number=0",
+        "can_be_last": "counts steps", "share_together": "counts steps", "journey_with_last": "counts steps",
+        "sure_lasts": "counts", "sure_first_ins": "counts",
+    },
+    "countedsteps.passings": {
+        "passings": "journey place", "is_table": "thing", "arrivals": "counts place", "departures": "counts place",
+        "pieces_without": "counts place", "why_no_table": "counts place table", "can_pass": "counts place table",
+        "pass_journey": "counts place table", "pass_range": "counts one place other *told=()",
+        "must_pass": "counts place *told=()", "may_pass": "counts place *told=()",
+        "journey_passing": "counts one place other many", "range_journeys": "counts one place other",
+        "can_pass_all": "counts tables", "pass_all_journey": "counts tables",
+    },
 }
 # What a class is made with, its methods, its properties without setters, its signs.
 CLASSES = {
@@ -37,8 +55,25 @@ CLASSES = {
         "counts many first last",
         "__getitem__ __contains__ __iter__ __eq__",
     ),
+    ("countedsteps.torn", "Torn"): (
+        "counts notes=()",
+        {"rank": "journey", "between": "row", "may_stand": "place number", "share": "place number other",
+         "read": "place number other", "sure": "", "needless": "", "twin": "journey"},
+        "counts notes many first last",
+        "__getitem__ __contains__ __iter__ __eq__",
+    ),
+    ("countedsteps.several", "Several"): (
+        "begins ends steps=()",
+        {"turned": "", "why_none": "", "is_had": "", "how_many": "", "in_order": "places", "is_row": "thing",
+         "some_row": "", "row": "number", "rank": "row", "follow_range": "one other", "following": "one other many"},
+        "begins ends steps places size",
+        "__eq__ __add__",
+    ),
 }
-STATIC = {("countedsteps.counts", "Counts"): {"of": "journey"}}
+STATIC = {
+    ("countedsteps.counts", "Counts"): {"of": "journey"},
+    ("countedsteps.several", "Several"): {"of": "row"},
+}
 
 
 def parameters(function):

@@ -113,6 +113,23 @@ class Language(unittest.TestCase):
                     self.assertNotIsInstance(node.value, (float, complex), name)
                     self.assertFalse(isinstance(node.value, str) and "%" in node.value, name)
 
+    def test_what_classes_with_operators_bar(self):
+        for name, tree in TREES.items():
+            for node in ast.walk(tree):
+                self.assertNotIsInstance(node, ast.GeneratorExp, name)
+                self.assertFalse(isinstance(node, ast.AugAssign) and isinstance(node.op, ast.Add), name)
+
+    def test_properties_are_no_methods(self):
+        properties, methods = set(), set()
+        for tree in TREES.values():
+            for node in ast.walk(tree):
+                for method in node.body if isinstance(node, ast.ClassDef) else []:
+                    if isinstance(method, ast.FunctionDef):
+                        marks = [mark.id for mark in method.decorator_list]
+                        self.assertIn(marks, [[], ["property"], ["staticmethod"]])
+                        (properties if marks == ["property"] else methods).add(method.name)
+        self.assertEqual(properties & methods, set())
+
     def test_names(self):
         taken = set(dir(builtins)) | BARRED_NAMES
         for name, tree in TREES.items():
