@@ -3,6 +3,11 @@
 from math import comb, gcd, perm
 
 
+def is_number(thing):
+    """Whether thing is a number: an int that is not a bool."""
+    return isinstance(thing, int) and not isinstance(thing, bool)
+
+
 def factorial(many):
     """How many orders so many unlike things have."""
     return perm(many, many)

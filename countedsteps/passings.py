@@ -1,6 +1,7 @@
 """How often journeys pass a place from here to there."""
 
 from countedsteps.errors import BadTable, NoNumber
+from countedsteps.exact import is_number
 from countedsteps.journeys import is_place
 from countedsteps.stands import end_of, is_had, need, some_journey
 from countedsteps.tables import (
@@ -32,7 +33,7 @@ def is_entry(thing):
     pair, many = thing
     if not isinstance(pair, tuple) or len(pair) != 2 or not all([is_name(name) for name in pair]):
         return False
-    return isinstance(many, int) and not isinstance(many, bool) and many >= 1
+    return is_number(many) and many >= 1
 
 
 def is_table(thing):

@@ -17,14 +17,22 @@ def pieces_of(names, ties):
                    for first in ascending if head[first] == first])
 
 
-def led_to(end, steps):
-    """The set of the names from which the pairs in steps lead to end, end among them."""
-    met = {end: True}
+def ways_to(end, steps):
+    """For each name but end from which the pairs in steps lead to end: the next name on a way there."""
+    befores = {}
+    for one, other in steps:
+        befores.setdefault(other, []).append(one)
+    onward = {}
     waiting = [end]
     while waiting:
         here = waiting.pop()
-        for one, other in steps:
-            if other == here and one not in met:
-                met[one] = True
+        for one in befores.get(here, []):
+            if one != end and one not in onward:
+                onward[one] = here
                 waiting.append(one)
-    return tuple(sorted(met))
+    return onward
+
+
+def led_to(end, steps):
+    """The set of the names from which the pairs in steps lead to end, end among them."""
+    return tuple(sorted([end, *ways_to(end, steps)]))

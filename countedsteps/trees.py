@@ -73,12 +73,15 @@ def comes_to(tree, here, goal):
 def trees(counts):
     """The ascending list of all trees."""
     end = end_of(counts)
+    places, steps = counts.places, [(one, other) for one, other, _ in counts.steps]
     grown = [()]
-    for place in counts.places:
+    for place in places:
+        outs = [step for step in steps if step[0] == place]
+        later = [step for step in steps if step[0] > place]
         if place != end:
-            nexts = counts.nexts(place)
-            grown = [(*tree, (place, other)) for tree in grown for other in nexts
-                     if not comes_to(tree, other, place)]
+            # What cannot become a tree is left at once, so there are never more than there are trees.
+            grown = [(*tree, step) for tree in grown for step in outs
+                     if len(outs) == 1 or led_to(end, [*tree, step, *later]) == places]
     return grown
 
 

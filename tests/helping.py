@@ -1,6 +1,7 @@
 """What several test files need: checks of errors, and journeys that are found by following every step."""
 
 import itertools
+import math
 import random
 import unittest
 
@@ -31,6 +32,12 @@ class Raising(unittest.TestCase):
             call()
         self.assertIs(caught.exception.__class__, error)
         self.assertEqual(vars(caught.exception), values)
+
+
+def ratio(upper, lower):
+    """The FRACTION of the two numbers."""
+    common = math.gcd(upper, lower)
+    return (upper // common, lower // common)
 
 
 def followed(counts):

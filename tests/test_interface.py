@@ -40,6 +40,29 @@ FUNCTIONS = {
         "journey_passing": "counts one place other many", "range_journeys": "counts one place other",
         "can_pass_all": "counts tables", "pass_all_journey": "counts tables",
     },
+    "countedsteps.stretches": {
+        "visits_of": "journey stretch", "has_stretch": "counts stretch", "with_stretch": "counts stretch",
+        "average": "counts stretch", "begins_with": "counts stretch", "ends_with": "counts stretch",
+        "behind": "counts stretch", "has_apart": "counts stretches", "with_apart": "counts stretches",
+        "average_apart": "counts stretches", "most_apart": "counts stretch",
+    },
+    "countedsteps.windows": {
+        "why_none_with": "windows", "how_many_with": "windows", "some_with": "windows",
+        "all_with": "windows *most=2000", "is_told_by": "journey size", "crossing_by": "journey size",
+        "is_crossing_by": "journey size thing", "twin_by": "journey size", "least_window": "journey",
+        "numbers_by": "journey", "told_apart": "one other", "window_for_all": "counts *most=2000",
+    },
+    "countedsteps.visits": {
+        "left_order": "journey", "met_order": "journey", "left_ahead": "counts place other",
+        "met_ahead": "counts place other", "path_ahead": "counts place other",
+        "is_path_ahead": "counts place other thing", "journey_ahead": "counts place other *first=False",
+        "always_left": "counts", "always_met": "counts", "sure_beginning": "counts", "sure_end": "counts",
+    },
+    "countedsteps.diaries": {
+        "diaries_of": "journey places", "with_diaries": "counts lists", "by_diaries": "counts lists",
+        "needed_for": "journey", "changed_at": "journey place", "tells": "journey places", "needed": "counts",
+        "tells_all": "counts places", "two_alike": "counts places",
+    },
 }
 # What a class is made with, its methods, its properties without setters, its signs.
 CLASSES = {
@@ -69,10 +92,17 @@ CLASSES = {
         "begins ends steps places size",
         "__eq__ __add__",
     ),
+    ("countedsteps.windows", "Windows"): (
+        "size head pairs=()",
+        {"narrower": "", "as_counts": ""},
+        "size head pairs total",
+        "__getitem__ __contains__ __iter__ __eq__",
+    ),
 }
 STATIC = {
     ("countedsteps.counts", "Counts"): {"of": "journey"},
     ("countedsteps.several", "Several"): {"of": "row"},
+    ("countedsteps.windows", "Windows"): {"of": "journey size"},
 }
 
 

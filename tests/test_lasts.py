@@ -1,7 +1,6 @@
 """Points 1 (c), 2, 3 and 10: last and first steps."""
 
 import itertools
-import math
 import random
 import unittest
 
@@ -13,16 +12,10 @@ from countedsteps.lasts import (
     share_out, share_together, sure_first_ins, sure_lasts,
 )
 from countedsteps.ranks import all_journeys
-from helping import GREAT, NOT_HAD, Raising, followed, small_counts
+from helping import GREAT, NOT_HAD, Raising, followed, ratio, small_counts
 
 ROUND_ABOUT = Counts.of(("a", "b", "c", "a", "c", "b", "d"))
 NONE_HAD = NOT_HAD[0]
-
-
-def ratio(upper, lower):
-    """A FRACTION."""
-    common = math.gcd(upper, lower)
-    return (upper // common, lower // common)
 
 
 def met_set(rows, at):

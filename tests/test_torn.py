@@ -11,18 +11,12 @@ from countedsteps.journeys import exits
 from countedsteps.ranks import Journeys
 from countedsteps.torn import Torn, fewest_members, members_for, notes_of
 from countedsteps.trees import exit_lists
-from helping import NOT_HAD, Raising, followed, short_journeys, small_counts, walked
+from helping import NOT_HAD, Raising, followed, ratio, short_journeys, small_counts, walked
 
 SIX = Counts("a", (("a", "b", 1), ("a", "c", 1), ("b", "a", 1), ("b", "c", 1), ("c", "a", 1), ("c", "b", 1)))
 TORN = Torn(SIX, (("b", ("c", "?")),))
 TRIP, LATE = ("a", "b", "a", "c"), ("a", "b", "c", "a", "c", "b", "a")
 NONE = Torn(Counts.of(TRIP), (("a", ("c", "b")),))
-
-
-def ratio(upper, lower):
-    """A FRACTION."""
-    common = math.gcd(upper, lower)
-    return (upper // common, lower // common)
 
 
 def fitting(journeys, notes):
