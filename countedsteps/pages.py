@@ -5,7 +5,6 @@ is not read; left has, ascending, a pair (other, number) for each place that is 
 Pages are a dict from each place of had Counts to its page; all journeys that fit them end at one place.
 """
 
-from countedsteps.exact import arrangements
 from countedsteps.trees import exit_numbers, last_ways, orders, tree_sum
 
 UNREAD = "?"

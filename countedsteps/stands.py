@@ -5,12 +5,18 @@ from countedsteps.errors import NoJourney, Short
 from countedsteps.ties import pieces_of
 
 
-def surplus(counts):
-    """The set of the pairs (place, steps out less steps in), without 0."""
+def more_out(steps):
+    """For each place of the triples how many steps out of it there are, less those into it."""
     more = {}
-    for one, other, number in counts.steps:
+    for one, other, number in steps:
         more[one] = more.get(one, 0) + number
         more[other] = more.get(other, 0) - number
+    return more
+
+
+def surplus(counts):
+    """The set of the pairs (place, steps out less steps in), without 0."""
+    more = more_out(counts.steps)
     return tuple([(place, more[place]) for place in sorted(more) if more[place] != 0])
 
 

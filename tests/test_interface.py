@@ -63,6 +63,16 @@ FUNCTIONS = {
         "needed_for": "journey", "changed_at": "journey place", "tells": "journey places", "needed": "counts",
         "tells_all": "counts places", "two_alike": "counts places",
     },
+    "countedsteps.mends": {
+        "fewest_journeys": "steps", "covered_by": "steps", "can_begin": "place steps", "mends": "start steps",
+        "mend": "start steps", "is_mend": "start steps thing", "mends_to": "start end steps",
+        "mend_to": "start end steps",
+    },
+    "countedsteps.texts": {
+        "journey_text": "journey", "journey_of": "text", "counts_of": "text", "windows_text": "windows",
+        "windows_of": "text", "steps_text": "steps",
+    },
+    "countedsteps.desk": {"answers": "text"},
 }
 # What a class is made with, its methods, its properties without setters, its signs.
 CLASSES = {
@@ -98,6 +108,13 @@ CLASSES = {
         "size head pairs total",
         "__getitem__ __contains__ __iter__ __eq__",
     ),
+    ("countedsteps.log", "Log"): (
+        "start *diaries=()",
+        {"go": "place", "walk": "places", "back": "", "possible": "", "is_told": "", "twin": ""},
+        "start here counts lists",
+        "__iadd__ __len__ __eq__",
+    ),
+    ("countedsteps.desk", "Desk"): ("counts", {"answer": "request"}, "counts", "__len__"),
 }
 STATIC = {
     ("countedsteps.counts", "Counts"): {"of": "journey"},

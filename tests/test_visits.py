@@ -1,13 +1,11 @@
 """Points 1 (g), 2, 3 and 15: first and last visits."""
 
 import itertools
-import random
 import unittest
 
 from countedsteps.counts import Counts
 from countedsteps.errors import NoJourney, NoPlace
 from countedsteps.journeys import is_journey, turned
-from countedsteps.ranks import all_journeys
 from countedsteps.visits import (
     always_left, always_met, is_path_ahead, journey_ahead, left_ahead, left_order, met_ahead, met_order, path_ahead,
     sure_beginning, sure_end,
