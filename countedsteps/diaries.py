@@ -70,11 +70,11 @@ def tells(journey, places):
 
 def is_needed(counts, place):
     """Whether the exit list of the place is not the same in all journeys."""
-    numbers, lasts = exit_numbers(counts, place), last_outs(counts, place)
-    if place == end_of(counts) or len(lasts) != 1:
-        return len(numbers) > 1
+    lasts = last_outs(counts, place)
+    if len(lasts) != 1:
+        return len(lasts) > 1
     # The last member is always the same, so it depends on the ones ahead of it.
-    return len(less(numbers, lasts[0])) > 1
+    return len(less(exit_numbers(counts, place), lasts[0])) > 1
 
 
 def needed(counts):

@@ -3,7 +3,7 @@
 from countedsteps.counts import Counts
 from countedsteps.journeys import is_journey, joined, turned
 from countedsteps.lasts import check_two
-from countedsteps.stands import end_of, gone, open_steps, pieces, some_journey, turned_counts
+from countedsteps.stands import end_of, gone, need, open_steps, pieces, some_journey, turned_counts
 
 
 def left_order(journey):
@@ -110,7 +110,7 @@ def pairs_of(counts):
 
 def always_left(counts):
     """The ascending list of the pairs (place, other), the place left ahead of the other one in every journey."""
-    end_of(counts)
+    need(counts)
     # One of two places is left ahead of the other one in each journey.
     return [(place, other) for place, other in pairs_of(counts) if path_ahead(counts, other, place) is None]
 
@@ -122,7 +122,7 @@ def always_met(counts):
 
 def sure_beginning(counts):
     """The longest journey with which every journey begins."""
-    end_of(counts)
+    need(counts)
     path, left = [counts.start], counts
     others = open_steps(left)
     while len(others) == 1:

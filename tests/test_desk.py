@@ -285,7 +285,7 @@ class Edges(Raising):
                "share a a", "share a b c", "share a B", "ahead b b", "ahead a", "journey", "journey -1", "journey 01",
                "journey a", "journey 1 2", "journey 1.", "journey \u0661", "journey +1", "number", "number a a",
                "number a  b", "number a b b", "number a ?", "begins", "begins ", "begins a a", "add a b", "add a b -1",
-               "add a b 00", "add a b 1 1", "add a 1 b", "add a B 1", "add A A 1", "take a b c", "take a b", "take",
+               "add a b 00", "add a b 1 1", "add a 1 b", "add a B 1", "add A A 1", "add A b 1", "take B a 1", "take a b c", "take a b", "take",
                "add a b 1\n", "why\nwhy", "many\n", "sums", "x", "0", "answer", "undo undo", "go\ta", "last \u00e9"]
         for request in bad:
             self.check_raises(BadText, {}, lambda: desk.answer(request))

@@ -148,6 +148,14 @@ class Edges(Raising):
         self.assertEqual(two_alike(counts, ("b", "c", "d")),
                          (("a", "b", "d", "a", "c", "d"), ("a", "c", "d", "a", "b", "d")))
 
+    def test_other_places_that_are_not_left_by_way_of_it(self):
+        # Each p can be left last towards x only if x is left last towards the end without p.
+        for row in ["zxpepxbe", "zxpepxye", "axbebxpe", "zxpwpxbw"]:
+            counts, place = Counts.of(tuple(row)), row[2]
+            one, other = two_alike(counts, tuple(sorted(set(row) - {place})))
+            self.assertNotEqual(exits(one, place), exits(other, place))
+            self.assertEqual((Counts.of(one), Counts.of(other)), (counts, counts))
+
     def test_a_last_member_that_cannot_change(self):
         counts = Counts("a", (("a", "b", GREAT), ("b", "a", GREAT), ("a", "c", 1)))
         self.assertEqual((needed(counts), tells_all(counts, ()), two_alike(counts, ())), ((), True, None))

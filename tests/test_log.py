@@ -170,6 +170,8 @@ class Edges(Raising):
             self.assertIs(log == thing, False)
             self.assertIs(thing == log, False)
         self.assertIs(Log("a") == Log("b"), False)
+        self.assertIs(none == Log("a"), False)
+        self.assertIs(none == none.twin(), True)
 
     def test_no_setters_and_no_iteration(self):
         log = Log("a")

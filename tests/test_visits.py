@@ -157,6 +157,10 @@ class Edges(Raising):
                       ("b", "a"), ("c", "A"), ("c", "x", "a"), ("c", ["a"]), ("c", "a", None), ("c", "c", "a"), TWO]:
             self.assertIs(is_path_ahead(TWO, "b", "c", thing), False)
         self.assertIs(is_path_ahead(TWO, "a", "c", ("c", "a")), False)
+        twice = Counts("a", [(*pair, 9) for pair in itertools.permutations("abcd", 2)])
+        self.assertIs(is_path_ahead(twice, "c", "b", ("b", "d", "a")), True)
+        for thing in [("b", "d", "b", "a"), ("b", "a", "b", "a"), ("b", "a", "d", "a"), ("b", "c", "a")]:
+            self.assertIs(is_path_ahead(twice, "c", "b", thing), False)
 
     def test_pieces_that_the_path_comes_by(self):
         # The loops at q and at the end do not hang together with b and c when the path is taken out.

@@ -108,6 +108,7 @@ class AgainstAllJourneys(unittest.TestCase):
                     self.assertEqual((windows[row], row in windows), (number, True))
                 if size > 2:
                     self.assertEqual(windows.narrower(), Windows.of(journey, size - 1))
+                    self.assertEqual(windows.narrower().size, size - 1)
 
     def test_who_has_the_same(self):
         for counts in small_counts(141, many=60):
@@ -181,6 +182,10 @@ class AgainstAllJourneys(unittest.TestCase):
             self.assertIs(why_none_with(windows) is None, those != [])
             if size == 2:
                 self.assertIs(is_had(windows.as_counts()), those != [])
+            while windows.size > 2:
+                counts, windows = windows.as_counts(), windows.narrower()
+                self.assertEqual(windows.as_counts(), counts)
+            self.assertEqual(windows.as_counts().steps, tuple((*row, number) for row, number in windows.pairs))
         self.assertGreater(had, 30)
 
     def with_windows(self, windows):
